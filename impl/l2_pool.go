@@ -233,3 +233,25 @@ func pairAt(list []poolEntry, place int) (pairEntry, bool) {
 	e, ok := entryAt(list, place).(pairEntry)
 	return e, ok
 }
+
+// constAt is the entry at a place of a pool, nothing, if there is none.
+func constAt(pool []Const, place int) Const {
+	if place < 1 || place > len(pool) {
+		return Const{}
+	}
+	return pool[place-1]
+}
+
+func isClassAt(pool []Const, place int) bool {
+	return constAt(pool, place).Kind == ConstClass
+}
+
+// nameTextAt is the text of an entry of a pool that is ok, where none but a ConstName has one.
+func nameTextAt(pool []Const, place int) string {
+	return constAt(pool, place).Text
+}
+
+// classTextAt is the name of the class that a ConstClass tells.
+func classTextAt(pool []Const, place int) string {
+	return nameTextAt(pool, constAt(pool, place).A)
+}

@@ -237,3 +237,94 @@ func TestCalmOps(t *testing.T) {
 		})
 	}
 }
+
+func TestCalmCheck(t *testing.T) {
+	try := func(what string, c impl.Class) {
+		c = roomy(reflect.ValueOf(c)).Interface().(impl.Class)
+		before := frozen(c)
+		n := 0
+		calm(t, "ClassCheck of "+what, func() { n = impl.ClassCheck(c) })
+		if frozen(c) != before {
+			t.Fatalf("%s: ClassCheck writes into its argument", what)
+		}
+		if n < impl.FormFine || n > impl.FormCode || n != formOf(c) {
+			t.Fatalf("%s: %d", what, n)
+		}
+	}
+	for seed := range 3000 {
+		d := newDice(seed)
+		try(fmt.Sprint("an odd class ", seed), oddClass(seed))
+		c := randomClass(d)
+		spoil(d, reflect.ValueOf(&c).Elem(), 1+d.below(200))
+		try(fmt.Sprint("a class ", seed), c)
+	}
+	for _, n := range oddNumbers {
+		for _, place := range numbersOf(soundClass()) {
+			c := soundClass()
+			place(&c).SetInt(int64(n))
+			try(fmt.Sprint("a class with ", n), c)
+		}
+	}
+	for _, n := range []int{100, 3000} {
+		c := soundClass()
+		c.Pool = many(n, c.Pool[0])
+		try("a long pool", c)
+		c = soundClass()
+		c.Faces, c.Fields = many(n, c.Faces[0]), many(n, c.Fields[0])
+		try("many faces and fields", c)
+		c = soundClass()
+		c.Methods = many(n/10, c.Methods[0])
+		try("many methods", c)
+		c = soundClass()
+		m := &c.Methods[0]
+		m.Traps, m.Frames, m.Code = many(n, m.Traps[0]), many(n, m.Frames[0]), strings.Repeat("\x00", n)
+		try("a long method", c)
+	}
+}
+
+// numbersOf finds each number of a class anew in another one of that shape.
+func numbersOf(c impl.Class) []func(c *impl.Class) reflect.Value {
+	var out []func(c *impl.Class) reflect.Value
+	var walk func(v reflect.Value, path []int)
+	walk = func(v reflect.Value, path []int) {
+		many := 0
+		switch v.Kind() {
+		case reflect.Int:
+			own := append([]int{}, path...)
+			out = append(out, func(c *impl.Class) reflect.Value { return follow(reflect.ValueOf(c).Elem(), own) })
+		case reflect.Struct:
+			many = v.NumField()
+		case reflect.Slice:
+			many = v.Len()
+		}
+		for i := range many {
+			walk(follow(v, []int{i}), append(path, i))
+		}
+	}
+	walk(reflect.ValueOf(c), nil)
+	return out
+}
+
+func follow(v reflect.Value, path []int) reflect.Value {
+	for _, i := range path {
+		if v.Kind() == reflect.Struct {
+			v = v.Field(i)
+		} else {
+			v = v.Index(i)
+		}
+	}
+	return v
+}
+
+// What was asked ahead does not matter.
+func TestCalmCheckKeepsNothing(t *testing.T) {
+	faults := classFaults()
+	for seed := range 2000 {
+		f := faults[newDice(seed).below(len(faults))]
+		c := soundClass()
+		f.turn(&c)
+		wantForm(t, f.name, c, f.want)
+		wantForm(t, f.name+" again", c, f.want)
+		wantForm(t, "behind "+f.name, soundClass(), impl.FormFine)
+	}
+}

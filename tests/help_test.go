@@ -3,6 +3,7 @@ package tests
 import (
 	"fmt"
 	"reflect"
+	"strconv"
 	"strings"
 	"testing"
 	"unsafe"
@@ -51,35 +52,41 @@ func list[T any](d *dice, most int, one func() T) []T {
 
 // same holds two values against each other; the empty list and the nil list are the same value.
 func same(a any, b any) bool {
-	return dump(reflect.ValueOf(a), false) == dump(reflect.ValueOf(b), false)
+	return dump(a, false) == dump(b, false)
 }
 
 // frozen is all that a value holds, spare room of its lists included.
 func frozen(v any) string {
-	return dump(reflect.ValueOf(v), true)
+	return dump(v, true)
 }
 
-func dump(v reflect.Value, spare bool) string {
+func dump(v any, spare bool) string {
+	return string(dumpBehind(nil, reflect.ValueOf(v), spare))
+}
+
+func dumpBehind(b []byte, v reflect.Value, spare bool) []byte {
 	switch v.Kind() {
 	case reflect.Slice:
 		if spare {
 			v = v.Slice(0, v.Cap())
 		}
-		var b strings.Builder
+		b = append(b, '[')
 		for i := range v.Len() {
-			b.WriteString(dump(v.Index(i), spare) + ",")
+			b = append(dumpBehind(b, v.Index(i), spare), ',')
 		}
-		return "[" + b.String() + "]"
+		return append(b, ']')
 	case reflect.Struct:
-		var b strings.Builder
+		b = append(b, '{')
 		for i := range v.NumField() {
-			b.WriteString(dump(v.Field(i), spare) + ",")
+			b = append(dumpBehind(b, v.Field(i), spare), ',')
 		}
-		return "{" + b.String() + "}"
+		return append(b, '}')
 	case reflect.String:
-		return fmt.Sprintf("%q", v.String())
+		return strconv.AppendQuote(b, v.String())
+	case reflect.Int:
+		return strconv.AppendInt(b, v.Int(), 10)
 	}
-	return fmt.Sprint(v.Interface())
+	return fmt.Append(b, v.Interface())
 }
 
 // stretch is a piece of memory: where it begins, and how many bytes it has.
