@@ -44,7 +44,7 @@ func DescOf(s string) ([]string, string, bool) {
 		return nil, "", false
 	}
 	back := s[at+1:]
-	if back != "V" && !TypeOk(back) {
+	if back != typeNothing && !TypeOk(back) {
 		return nil, "", false
 	}
 	return takes, strings.Clone(back), true
@@ -63,6 +63,11 @@ func PoolCheck(pool []Const) int {
 	}
 	return 0
 }
+
+const (
+	typeInt     = "I"
+	typeNothing = "V"
+)
 
 func isFigure(b byte) bool {
 	return b >= '0' && b <= '9'
