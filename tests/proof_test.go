@@ -169,6 +169,8 @@ var opCases = []opCase{
 	{"refload 1", "-,LX; I", "-,LX; I,N", "no"},
 	{"refload 1", "N,- I", "N,- I,-", "no"},
 	{"refload 1", "N,I I", "N,I I,-", "no"},
+	{"load 1", "I,- N", "I,- N", "no"},
+	{"refload 1", "N,I I", "N,I I", "no"},
 	{"store 1", "-,- N,I", "-,I N", "."},
 	{"store 1", "-,LX; N,I", "-,I N", "."},
 	{"store 1", "-,- N,N", "-,- N", "no"},
@@ -376,6 +378,7 @@ func TestProofGives(t *testing.T) {
 		{"()V", "give", ".", "."}, {"()V", "give", "I", "."}, {"()I", "give", "I", "no"}, {"()LX;", "give", "LX;", "no"},
 	} {
 		wantProof(t, c.op+" of "+c.desc, stepOf(c.desc, 4, c.op, "- "+c.stack, "I N"), c.want)
+		wantProof(t, c.op+" of "+c.desc+" to the same", stepOf(c.desc, 4, c.op, "- "+c.stack, "- "+c.stack), c.want)
 	}
 }
 
@@ -455,6 +458,7 @@ func TestProofFrames(t *testing.T) {
 	wantProof(t, "ifsame without a frame", method("null\nnull\nifsame e\npush 1\nprint\ne:\ngive\n"), "no")
 	wantProof(t, "back to the beginning", method("s:\npush 1\nprint\ngo s\nframe s - .\n"), ".")
 	wantProof(t, "back without a frame", method("s:\npush 1\nprint\ngo s\n"), "no")
+	wantProof(t, "back without a frame and without places", "class M A 0\nmethod m ()V 1 0 0\ns:\ngo s\n", "no")
 	wantProof(t, "back with one value more", method("s:\npush 1\ngo s\nframe s - .\n"), "no")
 	wantProof(t, "what is known where it goes on is what is known there", method("push 1\nstore 0\npush 1\nifzero e\npush 1\nprint\ne:\nload 0\nprint\ngive\nframe e I .\n"), ".")
 	wantProof(t, "a number that is not one on the way", method("push 1\nifzero e\npush 1\nstore 0\ne:\nload 0\nprint\ngive\nframe e I .\n"), "no")

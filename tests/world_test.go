@@ -260,6 +260,16 @@ func tableTurns() []worldTurn {
 		{"a bond of a class that nobody knows by it", func(w *impl.World) { w.Bonds[0].Class = richA }},
 		{"a bond of a class that is not there", func(w *impl.World) { w.Bonds[0].Class = 99 }},
 		{"a bond of a class below -1", func(w *impl.World) { w.Bonds[0].Class = -2 }},
+		{"a bond of loaders that know two classes", func(w *impl.World) {
+			w.Loaders[2] = impl.Loader{Parent: 1, Files: []impl.File{w.Loaders[0].Files[0]}}
+			w.Classes = append(w.Classes, impl.Cls{Name: "A", Loader: 2, File: w.Classes[richA].File, State: impl.StateLoaded})
+			for i, k := range w.Known {
+				if k.Loader == 2 && k.Name == "A" {
+					w.Known[i].Class = 7
+				}
+			}
+			w.Bonds[2].Class = 7
+		}},
 		{"more bonds than may be", func(w *impl.World) {
 			for i := range impl.BondMax - 2 {
 				w.Bonds = append(w.Bonds, impl.Bond{Name: fmt.Sprint("N", i), Loaders: two(), Class: -1})
@@ -517,6 +527,7 @@ func TestCalmWorlds(t *testing.T) {
 		if d.below(20) == 0 {
 			name = d.text(d.below(20))
 		}
+		class := d.below(len(w.Classes)+2) - 1
 		calls := map[string]func() answer{
 			"WorldNew": func() answer { return answer{World: impl.WorldNew(w.Loaders)} },
 			"WorldOk":  func() answer { return answer{Ok: impl.WorldOk(w)} },
@@ -527,7 +538,7 @@ func TestCalmWorlds(t *testing.T) {
 			},
 			"WorldBind": func() answer { x, fault := impl.WorldBind(w, a, b, name); return answer{World: x, Fault: fault} },
 			"WorldLink": func() answer {
-				x, fault := impl.WorldLink(w, d.below(len(w.Classes)+2)-1)
+				x, fault := impl.WorldLink(w, class)
 				return answer{World: x, Fault: fault}
 			},
 			"StartOk": func() answer {
