@@ -601,3 +601,28 @@ func TestWorldAhead(t *testing.T) {
 		wantNotOk(t, "what is above "+name+" behind it", w)
 	}
 }
+
+// Whatever ops a class has, a link answers, and leaves a world that is ok, or the one that it was given.
+func TestCalmLinks(t *testing.T) {
+	codes := map[int]int{}
+	for seed := range 3000 {
+		d := newDice(seed)
+		c := randomClass(d)
+		c.Faces, c.Super = nil, classObj
+		if impl.ClassCheck(c) != impl.FormFine {
+			continue
+		}
+		list := []impl.Loader{{Files: []impl.File{{Name: "A", Text: impl.FilePut(c)}}, Parent: 1}, loaderOf(t, -1, d.pick([]string{"class B Obj 0", "class B Obj 5", ""}))}
+		w, class := load(t, impl.WorldNew(list), 0, "A")
+		var x impl.World
+		var fault impl.Fault
+		calm(t, fmt.Sprint("WorldLink ", seed), func() { x, fault = impl.WorldLink(w, class) })
+		codes[fault.Code]++
+		if fault.Code == impl.FaultFine && !impl.WorldOk(x) || fault.Code != impl.FaultFine && !same(x, w) {
+			t.Fatal(seed, fault)
+		}
+	}
+	if codes[impl.FaultFine] < 100 || codes[impl.FaultProof] < 100 {
+		t.Error("too few", codes)
+	}
+}
