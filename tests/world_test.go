@@ -354,7 +354,41 @@ func TestWorldOk(t *testing.T) {
 		}
 	})
 	fine("a bond by another name", func(w *impl.World) { w.Bonds[1].Name = "XX" })
+	fine("as many bonds of other names as may be", func(w *impl.World) { w.Bonds = otherBonds(impl.BondMax) })
 	fine("a way for what another one makes", func(w *impl.World) { w.Loaders[0].Ways = []impl.Way{{Name: "B", To: 1}} })
+}
+
+// otherBonds are bonds by names that no class of richWorld names.
+func otherBonds(many int) []impl.Bond {
+	var out []impl.Bond
+	for i := range many {
+		out = append(out, impl.Bond{Name: fmt.Sprint("N", i), Loaders: []int{0, 1}, Class: -1})
+	}
+	return out
+}
+
+// What was linked is looked at without a place for its bonds, and these are not left in the world.
+func TestWorldOtherBonds(t *testing.T) {
+	w := richWorld(t)
+	w.Bonds = otherBonds(impl.BondMax)
+	if !impl.WorldSub(w, richB, richA) || impl.WorldSub(w, richA, richB) {
+		t.Error("WorldSub")
+	}
+	if x := linked(t, w, richB); !same(x, w) {
+		t.Error("what was linked", bonds(x))
+	}
+	x, class := load(t, w, 2, "B")
+	if class != richB || !same(x.Bonds, w.Bonds) {
+		t.Error("WorldLoad", class, bonds(x))
+	}
+	wantBindFault(t, w, 0, 1, "X", impl.FaultFull)
+	// C binds nobody by names of its own, but what it has of B and F does.
+	wantLinkFault(t, w, 1, "C", impl.FaultFull, "Y")
+	if x := bound(t, w, 0, 2, "N0"); len(x.Bonds) != impl.BondMax {
+		t.Error("WorldBind", bonds(x))
+	}
+	w.Bonds = otherBonds(impl.BondMax + 1)
+	wantNotOk(t, "one bond of other names too many", w)
 }
 
 func TestWorldMostClasses(t *testing.T) {
