@@ -6,7 +6,7 @@ import (
 	"testing"
 )
 
-// Finding is reached by runs alone; until these are there, it is tested here.
+// Runs tell of finding whether it went well; which field or method it is, and who is bound, is tested here.
 
 // findWorld has A and the faces F and G of the loader 0, B below A and U, who finds, of the loader 1; Q cannot be brought.
 func findWorld() *World {
