@@ -254,6 +254,10 @@ func TestLinkMostBonds(t *testing.T) {
 	wantLinkFault(t, bound(t, w, 0, 1, "M"), 1, "B", impl.FaultFull, "Y")
 	wantLinkFault(t, bound(t, bound(t, w, 0, 1, "M"), 0, 1, "O"), 1, "B", impl.FaultFull, "X")
 	loadLinked(t, bound(t, bound(t, w, 0, 1, "Y"), 0, 1, "X"), 1, "B")
+	// What the document names as a fault of linking is told ahead of that.
+	w = worldOf(t, loaderOf(t, -1, "class A Obj 0\n"+does("f", "(LX;)LY;", 0)), loaderOf(t, 0, "class B A 0\nmethod f (LX;)LY; 0 1 2\npop\n"))
+	w.Bonds = otherBonds(impl.BondMax)
+	wantLinkFault(t, w, 1, "B", impl.FaultProof, "B")
 }
 
 // What is above is linked first, and its fault is told.

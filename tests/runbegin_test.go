@@ -2,6 +2,7 @@ package tests
 
 import (
 	"fmt"
+	"strings"
 	"testing"
 
 	"loop.example/stowage/impl"
@@ -122,6 +123,15 @@ func TestRunBeginsFaces(t *testing.T) {
 	} {
 		wantBoth(t, x.ops, beginStart(t, x.ops, src), x.want)
 	}
+}
+
+// What no object can be of is told ahead of its beginning, and of what is wrong with it.
+func TestRunBeginsAbstract(t *testing.T) {
+	abstract := "class A Obj 4\nfield s I 1\n" + begins(1)
+	wantBoth(t, "an object", beginStart(t, "new A / give", abstract), "fault 4 A 1")
+	wantBoth(t, "a field", beginStart(t, "getall A s I / print / give", abstract), "fine 7: 1 0")
+	wantBoth(t, "one below", beginStart(t, "new B / pop / give", abstract+"class B A 0\n"), "fine 7: 1")
+	wantBoth(t, "one that cannot be linked", beginStart(t, "new A / give", "class A B 4\n"+does("f", "()V", 0)+"class B Obj 0\n"+does("f", "()V", impl.MemFinal)), "fault 4 A 1")
 }
 
 // What is called by its name is a method like others.
@@ -246,4 +256,7 @@ func TestRunBeginsFirst(t *testing.T) {
 	wantBoth(t, "it failed while one above ran", start(m("A", breaks(2)+"method s ()V 1 0 0\ngive\n")+above), "thrown Err 7: 2")
 	caught := start(trap + breaks(2) + above)
 	wantBoth(t, "main catches that", caught, "thrown Err 11: 2 8")
+	// What main uses behind that begins, and comes back to the op that wanted it.
+	other := strings.Replace(trap, "static M s ()V\n", "new Z\npop\npush 7\nprint\n", 1) + breaks(2) + a + "class Z Obj 0\n" + begins(6)
+	wantBoth(t, "main goes on without it", start(other), "fine 16: 2 8 6 7")
 }

@@ -46,6 +46,7 @@ func anyStart(t *testing.T, d *dice) impl.Start {
 
 // Whatever ops there are, a run ends, and tells the same by its steps.
 func TestCalmRuns(t *testing.T) {
+	t.Parallel()
 	ends := map[int]int{}
 	for seed := range 12000 {
 		s := anyStart(t, newDice(seed))
@@ -82,6 +83,7 @@ func oddStart(t *testing.T, seed int) impl.Start {
 
 // Each answer is new memory, and nothing is written into an argument.
 func TestCalmStarts(t *testing.T) {
+	t.Parallel()
 	fine := 0
 	for seed := range 4000 {
 		s := oddStart(t, seed)
@@ -114,6 +116,7 @@ func TestCalmStarts(t *testing.T) {
 
 // Whoever answered first, an answer is the same, and writing into it changes no other one.
 func TestCalmRunsKeepNothing(t *testing.T) {
+	t.Parallel()
 	for seed := range 300 {
 		d := newDice(seed)
 		s := randomStart(d)

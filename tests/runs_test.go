@@ -287,6 +287,7 @@ func beginsWith(list []int, first []int) bool {
 
 // Promises 22, 23, 25, and 27 to 32, of starts that are made up.
 func TestRunsRandom(t *testing.T) {
+	t.Parallel()
 	ends := map[string]int{}
 	for seed := range 6000 {
 		s := randomStart(newDice(seed))
@@ -368,6 +369,7 @@ func brokenProof(s impl.Start, a impl.Answer) string {
 
 // Promises 24, 26, 33 and 34, at each step of starts that are made up.
 func TestRunsRandomSteps(t *testing.T) {
+	t.Parallel()
 	for seed := range 700 {
 		s := randomStart(newDice(seed))
 		checkSteps(t, fmt.Sprint("seed ", seed), s)

@@ -77,7 +77,7 @@ func TestRunTrapStack(t *testing.T) {
 		t.Error(r.Acts, r.Heap)
 	}
 	// Without a proof it is put where no value has a place: that is what a trap says, and what is put behind it has none.
-	for _, c := range []runCase{{"pop / give", "fine 5"}, {"push 1 / give", "confused 4"}, {"dup / give", "confused 4"}, {"throw", "thrown Err 4"}} {
+	for _, c := range []runCase{{"pop / give", "fine 5"}, {"nop / pop / give", "fine 6"}, {"push 1 / give", "confused 4"}, {"dup / give", "confused 4"}, {"throw", "thrown Err 4"}} {
 		src := mainOf(0, 0, "f:\nstatic M s ()V\ngive\ne:\n"+lines(c.ops)+"\ntrap f e e -\n") + "method s ()V 1 1 0\nnull\nthrow\n"
 		wantRefused(t, "no place", startOf(loaderOf(t, -1, src)), c.want)
 	}
