@@ -167,10 +167,11 @@ func TestRunBeginsFail(t *testing.T) {
 		return "f: / " + op + " / push 7 / print / give / e: / pop / push 8 / print / g: / " + op + " / push 7 / print / give / h: / pop / push 9 / print / give / trap f e e - / trap g h h Err / frame e - LObj; / frame h - LErr;"
 	}
 	for _, x := range []struct {
-		op, want string
-		ahead    int
+		op string
+		// ahead is the step in which it is wanted.
+		ahead int
 	}{
-		{"new A / pop", "", 1}, {"getall A s I / pop", "", 1}, {"push 1 / putall A s I", "", 2}, {"static A t ()V", "", 1}, {"new B / pop", "", 1}, {"getall B s I / pop", "", 1}, {"getall B u I / pop", "", 1},
+		{"new A / pop", 1}, {"getall A s I / pop", 1}, {"push 1 / putall A s I", 2}, {"static A t ()V", 1}, {"new B / pop", 1}, {"getall B s I / pop", 1}, {"getall B u I / pop", 1},
 	} {
 		ops := x.op + " / give"
 		wantBoth(t, ops, beginStart(t, ops, a+b), fmt.Sprint("thrown Err ", 4+x.ahead, ": 1"))

@@ -53,15 +53,9 @@ var methodsOf = map[string][]string{
 	"M": {"v (ILA;)V 1"},
 }
 
-// some class, Obj and Err seldom.
+// class is some class, Obj and Err seldom.
 func (m runMaker) class() string {
 	return m.pick([]string{"A", "A", "A", "B", "B", "B", "C", "C", "M", "Obj", "Err"})
-}
-
-// use is an op of a member of a class, told by its words behind the flags.
-func (m runMaker) use(word string, class string, member string) string {
-	words := strings.Fields(member)
-	return word + " " + class + " " + words[0] + " " + words[1]
 }
 
 // onRef are ops for an object of a class that stands last.
@@ -309,7 +303,6 @@ func TestRunsRandom(t *testing.T) {
 			t.Error("too few", word, ends)
 		}
 	}
-	t.Log(ends)
 }
 
 // brokenPromise is what is not so of a start and its answer; the empty text, if all is.
