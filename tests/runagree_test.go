@@ -1,6 +1,8 @@
 package tests
 
 import (
+	"slices"
+	"strings"
 	"testing"
 
 	"loop.example/stowage/impl"
@@ -102,12 +104,14 @@ func TestRunObjectBelow(t *testing.T) {
 		{"new X / special T v ()V / give", "confused 2"},
 		{"new V / special T v ()V / give", "fine 4"},
 		{"new T / special V y ()V / give", "confused 2"},
-		// No object is looked at behind what is taken, and ahead of what agrees.
+		// No object is looked at behind all that is taken, and that must agree.
 		{"null / get T n I / print / give", "thrown Err 2"},
 		{"push 1 / get T n I / print / give", "confused 2"},
 		{"null / null / put T n I / give", "confused 3"},
 		{"null / push 1 / put T r LT; / give", "confused 3"},
-		{"null / new X / put T r LT; / give", "thrown Err 3"},
+		{"null / new X / put T r LT; / give", "confused 3"},
+		{"null / new V / put T r LT; / give", "thrown Err 3"},
+		{"null / null / put T r LT; / give", "thrown Err 3"},
 		{"new T / new X / put T r LT; / give", "confused 3"},
 		{"null / special T v ()V / give", "thrown Err 2"},
 		{"null / push 1 / virtual T w (LT;)V / give", "fault 8 T 3"},
@@ -122,11 +126,53 @@ func TestRunObjectBelow(t *testing.T) {
 	wantRefused(t, "not below", startOf(loaderOf(t, -1, own)), "confused 2")
 }
 
-// By a call with no object nothing is held against a type yet.
-func TestRunNoObjectFirst(t *testing.T) {
-	ops := "null / new X / virtual T v (LA;)V / give"
-	wantRun(t, ops, agreeStart(t, ops, "0", impl.Pick{Kind: impl.PickLoad, Loader: 1, Name: "A"}), "thrown Err 3")
-	ops = "new X / new X / virtual T v (LA;)V / give"
+// What is taken must agree ahead of a look at the object, as far as it is known by then who asks for it: the own loader, whose the field is, and, of OpSpecial, whose the method is.
+func TestRunAgreesAheadOfObject(t *testing.T) {
+	for _, c := range []struct {
+		ops string
+		// asked are the loaders as which it must agree.
+		asked []int
+		fine  string
+	}{
+		{"null / new X / put T r LA; / give", []int{0, 1}, "thrown Err 3"},
+		{"null / new X / put U r LA; / give", []int{0, 1}, "thrown Err 3"},
+		{"null / new X / virtual T v (LA;)V / give", []int{1}, "thrown Err 3"},
+		{"null / new X / virtual U v (LA;)V / give", []int{1}, "thrown Err 3"},
+		{"null / new X / special T v (LA;)V / give", []int{0, 1}, "thrown Err 3"},
+		{"null / new X / special U v (LA;)V / give", []int{1, 2}, "thrown Err 3"},
+		{"null / new X / face F v (LA;)V / give", []int{1}, "thrown Err 3"},
+		{"new X / new X / face F v (LA;)V / give", []int{1}, "fault 4 X 3"},
+		{"new X / null / face F v (LA;)V / give", nil, "fault 4 X 3"},
+		{"null / null / put T r LA; / give", nil, "thrown Err 3"},
+		{"null / null / virtual T v (LA;)V / give", nil, "thrown Err 3"},
+		{"null / null / special T v (LA;)V / give", nil, "thrown Err 3"},
+		{"null / null / face F v (LA;)V / give", nil, "thrown Err 3"},
+		// As the own loader knows it also ahead of a method that is not there.
+		{"new K / new X / virtual H v (LA;)V / give", []int{1}, "fault 8 M 3"},
+		{"new K / new X / face F v (LA;)V / give", []int{1}, "fault 8 M 3"},
+		{"new K / new X / special H v (LA;)V / give", []int{0, 1}, "fault 8 M 3"},
+	} {
+		for loader := -1; loader < 3; loader++ {
+			want, s := c.fine, agreeStart(t, c.ops, "0")
+			if slices.Contains(c.asked, loader) {
+				want = "confused 3"
+			}
+			if loader >= 0 {
+				s.Picks = []impl.Pick{{Kind: impl.PickLoad, Loader: loader, Name: "A"}}
+			}
+			faces := "class F Obj 5\n" + asks("v", "(LA;)V") + "class H Obj 4\nface F\n" + asks("v", "(LA;)V")
+			s.Loaders[0].Files = append(s.Loaders[0].Files, loaderOf(t, -1, faces).Files...)
+			s.Loaders[1].Files = append(s.Loaders[1].Files, fileOf(t, "class K H 0\n"))
+			wantRun(t, c.ops, s, want)
+			// Without room for what it would throw it is confused likewise.
+			if s.Room = strings.Count(c.ops, "new"); want == "confused 3" {
+				wantRun(t, c.ops, s, want)
+			} else if strings.HasPrefix(want, "thrown") {
+				wantRun(t, c.ops, s, "room Err 3")
+			}
+		}
+	}
+	ops := "new X / new X / virtual T v (LA;)V / give"
 	wantRun(t, ops, agreeStart(t, ops, "0"), "confused 3")
 }
 
