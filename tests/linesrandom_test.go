@@ -209,6 +209,9 @@ func turnedText(d *dice, text string) string {
 }
 
 func turnedParts(d *dice, text string, between string, others []string) string {
+	if text == "" {
+		return d.pick(others)
+	}
 	parts := strings.Split(text, between)
 	at, to := d.below(len(parts)), d.below(len(parts))
 	switch d.below(4) {
