@@ -436,4 +436,6 @@ func TestSessionPicks(t *testing.T) {
 	base := slices.Concat(session(), fileLinesOf(0, "B", "class B Q 0\n"), fileLinesOf(0, "C", "class C Obj 0\nmethod f ()I 1 1 0\n  null\n  giveint\n"))
 	wantLast(t, base, []string{"run 1 M 9 9", "pick 2 load 0 B", "run 1 M 9 9", "trust 1 M 9 9", "run 1 M 2 9", "check 1 M"}, "fine 3: 7 / ok / fault 1 Q 2: 7 / fault 1 Q 2: 7 / fault 1 Q 2: 7 / ok")
 	wantLast(t, base, []string{"pick 1 load 0 C", "run 1 M 9 9", "trust 1 M 9 9", "pick 1 link 0 C", "run 1 M 9 9", "trust 1 M 9 9", "pick 0 link 0 B", "run 1 M 9 9"}, "ok / fine 3: 7 / fine 3: 7 / ok / fault 12 C 1 / fine 3: 7 / ok / fault 1 Q 0")
+	wantLast(t, base, []string{"pick 1 load 0 B", "pick 1 load 0 Z", "run 1 M 9 9"}, "ok / ok / fault 1 Q 1")
+	wantLast(t, base, []string{"pick 1 load 0 Z", "pick 1 load 0 B", "run 1 M 9 9"}, "ok / ok / fault 1 Z 1")
 }
