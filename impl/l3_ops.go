@@ -127,6 +127,16 @@ func isOp(op int) bool {
 	return op >= 0 && op < len(opBehind)
 }
 
+// namesPlace says whether the place of an op stands behind an op.
+func namesPlace(op int) bool {
+	return op >= OpIfZero && op <= OpGo
+}
+
+// placeBehind is the place behind an op.
+func placeBehind(in Ins) int {
+	return in.At + 1 + opBehind[in.Op]
+}
+
 // numberOf is the number that bytes behind an op are; OpPush alone has numbers below 0.
 func numberOf(op int, behind string) int {
 	n := 0

@@ -18,6 +18,8 @@ type teller struct {
 	stack   []string
 	brought []string
 	wrong   string
+	// ahead is what is known ahead of each op, as far as it came, each as `AT LOCALS STACK`.
+	ahead []string
 }
 
 func (p *teller) fail(why string) {
@@ -224,7 +226,7 @@ func (p *teller) do(in impl.Ins) bool {
 // tell is what wantProof wants of a method.
 func (p *teller) tell() {
 	takes, _, _ := impl.DescOf(p.text(p.method.Desc))
-	p.locals, p.stack = nil, nil
+	p.locals, p.stack, p.ahead = nil, nil, nil
 	if p.method.Flags&impl.MemStatic == 0 {
 		p.locals = []string{"LM;"}
 	}
@@ -245,6 +247,7 @@ func (p *teller) tell() {
 		if !come {
 			p.fail("no")
 		}
+		p.ahead = append(p.ahead, fmt.Sprint(in.At, " ", listOf(p.locals), " ", listOf(p.stack)))
 		for _, trap := range p.method.Traps {
 			if trap.From <= in.At && in.At < trap.To {
 				thrown := "LObj;"
