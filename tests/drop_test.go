@@ -373,7 +373,7 @@ func TestDropNotOk(t *testing.T) {
 func TestPromiseDrop(t *testing.T) {
 	t.Parallel()
 	dropped, stayed, bonded, state := 0, 0, 0, 0
-	for seed := range 3000 {
+	for seed := range 1500 {
 		d := newDice(seed)
 		w := randomWorld(t, d)
 		if d.below(3) == 0 {
@@ -396,7 +396,7 @@ func TestPromiseDrop(t *testing.T) {
 			}
 		}
 	}
-	if dropped < 500 || stayed < 300 || bonded < 100 || state < 50 {
+	if dropped < 250 || stayed < 150 || bonded < 50 || state < 25 {
 		t.Error("too few of some", dropped, stayed, bonded, state)
 	}
 }

@@ -272,7 +272,7 @@ func padMethod(d *dice, m *impl.Method, proves bool) {
 func TestPromiseTidy(t *testing.T) {
 	t.Parallel()
 	fine, turned := 0, 0
-	for seed := range 6000 {
+	for seed := range 4000 {
 		d := newDice(seed)
 		c := randomClass(d)
 		switch d.below(3) {
@@ -301,7 +301,7 @@ func TestPromiseTidy(t *testing.T) {
 			t.Fatalf("seed %d:\n%swanted\n%s", seed, linesOf(impl.TidyOf(more)), linesOf(got))
 		}
 	}
-	if fine < 2000 || turned < 1500 {
+	if fine < 1400 || turned < 1000 {
 		t.Error("too few", fine, turned)
 	}
 }
@@ -323,7 +323,7 @@ func paddedStart(d *dice, s impl.Start) impl.Start {
 func TestPromiseTidyRuns(t *testing.T) {
 	t.Parallel()
 	ends, fewer := map[int]int{}, 0
-	for seed := range 2500 {
+	for seed := range 1500 {
 		d := newDice(seed)
 		s := randomStart(d)
 		if d.below(4) == 0 {
@@ -351,7 +351,7 @@ func TestPromiseTidyRuns(t *testing.T) {
 			t.Error("too few", ends)
 		}
 	}
-	if fewer < 400 {
+	if fewer < 250 {
 		t.Error("too few", fewer)
 	}
 }
@@ -392,7 +392,7 @@ func TestTidyAll(t *testing.T) {
 func TestPromiseTidyAll(t *testing.T) {
 	t.Parallel()
 	turned := 0
-	for seed := range 1500 {
+	for seed := range 700 {
 		d := newDice(seed)
 		list := randomStart(d).Loaders
 		if d.below(2) == 0 {
@@ -421,7 +421,7 @@ func TestPromiseTidyAll(t *testing.T) {
 			turned++
 		}
 	}
-	if turned < 100 {
+	if turned < 60 {
 		t.Error("too few", turned)
 	}
 }
