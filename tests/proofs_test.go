@@ -20,6 +20,8 @@ type teller struct {
 	wrong   string
 	// ahead is what is known ahead of each op, as far as it came, each as `AT LOCALS STACK`.
 	ahead []string
+	// leads is called, if there is one, where a place is led to, instead of a look at its frame.
+	leads func(at int, locals []string, stack []string)
 }
 
 func (p *teller) fail(why string) {
@@ -76,6 +78,10 @@ func (p *teller) kinds(list []impl.Kind) []string {
 
 // meets holds a state against the frame at a place.
 func (p *teller) meets(at int, locals []string, stack []string) {
+	if p.leads != nil {
+		p.leads(at, locals, stack)
+		return
+	}
 	for _, f := range p.method.Frames {
 		if f.At == at {
 			p.fitAll(p.kinds(f.Locals), locals)
