@@ -88,6 +88,7 @@ var foundCases = []struct {
 	{"to the first", "f: / push 1 / ifneg f / give / frame f -,-,- ."},
 	{"from one side alone", "go e / e: / give / frame e -,-,- ."},
 	{"past another one", "null / ifnull f / go e / f: / give / e: / give / frame f -,-,- . / frame e -,-,- ."},
+	{"to many places at once", "push 1 / ifzero a / push 1 / ifzero b / push 1 / ifzero c / push 1 / ifzero d / push 1 / ifzero e / give / e: / nop / give / d: / nop / give / c: / nop / give / b: / nop / give / a: / nop / give / frame a -,-,- . / frame b -,-,- . / frame c -,-,- . / frame d -,-,- . / frame e -,-,- ."},
 	{"three ways", "new B / refstore 0 / null / ifnull e / new N / refstore 0 / null / null / ifsame e / new M / refstore 0 / e: / give / frame e LA;,-,- ."},
 	{"three ways, the third is another one", "new B / refstore 0 / null / ifnull e / new N / refstore 0 / null / null / ifsame e / new C / refstore 0 / e: / give / frame e LObj;,-,- ."},
 	{"none, then two", "null / refstore 0 / push 1 / ifneg e / new B / refstore 0 / push 1 / ifneg e / new A / refstore 0 / e: / give / frame e LA;,-,- ."},
@@ -227,6 +228,13 @@ func TestFoundMost(t *testing.T) {
 	wantLost(t, "the last op", foundBy(strings.Split(body, " / frame")[0]))
 	wantFound(t, "long", foundBy(strings.Replace(body, " / nop", "", 1)))
 	wantFound(t, "wide", "class M A 0\nmethod m (LA;LB;IL"+"X;)V 0 8 8\n"+lines("push 1 / null / new M / push 1 / null / new M / push 2 / push 3 / ifzero e / push 4 / pop / e: / give / frame e LM;,LA;,LB;,I,LX;,-,-,- I,N,LM;,I,N,LM;,I")+"\n")
+	// One method has too many, and another one needs an entry that is not there.
+	body = ""
+	for i := range impl.FrameMax + 1 {
+		body += fmt.Sprintf("go e%d / e%d: / ", i, i)
+	}
+	wantLost(t, "another method needs an entry", foundBy(body+"give")+"method n (LB;)V 1 0 1\n"+lines("go e / e: / give")+"\n")
+	wantFound(t, "another method needs an entry, too", foundBy("go e / e: / give / frame e -,-,- .")+"method n (LB;)V 1 0 1\n"+lines("go e / e: / give / frame e LB; .")+"\n")
 	// A class that is too great with its frames, and one that is just not.
 	src := foundBy("push 1 / ifzero e / null / refstore 0 / e: / give / frame e -,-,- .")
 	more := len(impl.FilePut(classOf(src))) - len(impl.FilePut(impl.FrameLess(classOf(src))))
@@ -236,6 +244,32 @@ func TestFoundMost(t *testing.T) {
 		got, ok := impl.FrameFind(loadersBy(t, c), 0, "M")
 		if ok != (spare >= more) || ok != (impl.FrameMany(got) == 3) || len(impl.FilePut(c)) != impl.FileMax-spare {
 			t.Error(spare-more, ok, len(impl.FilePut(c)))
+		}
+	}
+}
+
+// What counts is how great the class is with the frames that are found, however many others it had.
+func TestFoundSmaller(t *testing.T) {
+	src := foundBy("push 1 / ifzero e / null / refstore 0 / e: / give / frame e -,-,- .") + "method n (LB;)V 1 8 8\n"
+	body := "go e\ne:\nnop\nnop\nnop\nnop\nnop\nnop\ngive\n"
+	for i := range 7 {
+		body += fmt.Sprint("frame ", 3+i, " -,-,-,-,-,-,-,- I,I,I,I,I,I,I,I\n")
+	}
+	c := classOf(src + body)
+	c.Pool = append(c.Pool, fillers(impl.FileMax-len(impl.FilePut(c)))...)
+	got, ok := impl.FrameFind(loadersBy(t, c), 0, "M")
+	if !ok || len(impl.FilePut(c)) != impl.FileMax || impl.FrameMany(got) != 11 || len(got.Pool) != len(c.Pool)+2 {
+		t.Fatal(ok, len(impl.FilePut(c)), len(got.Pool)-len(c.Pool))
+	}
+	checkFound(t, "smaller", loadersBy(t, c), 0, "M", c, got)
+	// Without those it had two methods each need an entry, and it is too great by the second one alone.
+	c = impl.FrameLess(classOf("class M A 0\nmethod m (LB;)V 1 0 1\n" + lines("go e / e: / give") + "\nmethod n (LC;)V 1 0 1\n" + lines("go e / e: / give") + "\n"))
+	needs := len(impl.FilePut(classOf("class M A 0\nmethod m (LB;)V 1 0 1\n"+lines("go e / e: / give / frame e LB; .")+"\nmethod n (LC;)V 1 0 1\n"+lines("go e / e: / give / frame e LC; .")+"\n"))) - len(impl.FilePut(c))
+	for spare := range needs + 8 {
+		x := copied(c)
+		x.Pool = append(x.Pool, fillers(impl.FileMax-spare-len(impl.FilePut(c)))...)
+		if got, ok := impl.FrameFind(loadersBy(t, x), 0, "M"); ok != (spare >= needs) || ok != (impl.FrameMany(got) == 2) {
+			t.Error(spare-needs, ok)
 		}
 	}
 }
@@ -414,6 +448,27 @@ func TestFoundLoaders(t *testing.T) {
 	list[1].Files = append(list[1].Files[:4:4], fileOf(t, both("B", "C")))
 	list[0].Files = []impl.File{fileOf(t, "class A Obj 0\n"), fileOf(t, "class M Obj 0\nmethod m ()V 1 0 0\ngo e\ne:\ngive\n")}
 	wantFoundBy(t, "a way ahead of a file", list, 0, "M", "- LA;")
+}
+
+// What a loader was given by a name it means from then on: another one that its bonds ask for cannot be brought any more.
+func TestFoundBound(t *testing.T) {
+	const above = "class A Obj 0\nclass E A 0\nclass D E 0\nclass S Obj 0\n"
+	one := loaderOf(t, -1, "class Z Obj 0\nclass A Z 0\nclass B A 0\nclass C A 0\n")
+	two := loaderOf(t, -1, above+does("f", "(LA;)V", 0))
+	way := func(name string) impl.Way { return impl.Way{Name: name, To: 2} }
+	const merges, brings = "new B / push 1 / ifzero e / pop / new C / e: / pop", "new D / get E x I / pop"
+	for _, c := range []struct{ super, body, want string }{
+		{"Obj", merges + " / " + brings, "- LA;"},
+		{"S", merges, "- LA;"},
+		{"S", merges + " / " + brings, ""},
+		{"S", brings + " / " + merges, "- LZ;"},
+	} {
+		src := "class M " + c.super + " 0\nmethod m ()V 1 4 1\n" + lines(c.body+" / give") + "\n"
+		if c.super == "S" {
+			src += does("f", "(LA;)V", 0)
+		}
+		wantFoundBy(t, c.super+" "+c.body, []impl.Loader{loaderOf(t, 1, src, way("D"), way("E"), way("S")), one, two}, 0, "M", c.want)
+	}
 }
 
 // Faces that both have are above neither: it goes by what a class is made of.

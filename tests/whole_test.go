@@ -62,7 +62,7 @@ func turnGoes(d *dice, c impl.Class, at int) {
 func TestPromiseWhole(t *testing.T) {
 	t.Parallel()
 	ends, found, mended := map[int]int{}, 0, 0
-	for seed := range 900 {
+	for seed := range 500 {
 		d := newDice(seed)
 		s := freeStart(d)
 		s.Prove = true
@@ -101,11 +101,11 @@ func TestPromiseWhole(t *testing.T) {
 		}
 	}
 	for _, end := range []int{impl.EndFine, impl.EndThrown, impl.EndFault, impl.EndFuel, impl.EndRoom, impl.EndDeep} {
-		if ends[end] < 20 {
+		if ends[end] < 8 {
 			t.Error("too few", ends)
 		}
 	}
-	if found < 1500 || mended < 20 {
+	if found < 1200 || mended < 20 {
 		t.Error("too few", found, mended)
 	}
 }
@@ -114,7 +114,7 @@ func TestPromiseWhole(t *testing.T) {
 func TestPromiseFoundRuns(t *testing.T) {
 	t.Parallel()
 	ends, found := map[int]int{}, 0
-	for seed := range 900 {
+	for seed := range 500 {
 		d := newDice(seed)
 		s := freeStart(d)
 		if d.below(4) == 0 {
@@ -145,7 +145,7 @@ func TestPromiseFoundRuns(t *testing.T) {
 			t.Error("too few", ends)
 		}
 	}
-	if found < 300 {
+	if found < 150 {
 		t.Error("too few", found)
 	}
 }
